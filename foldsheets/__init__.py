@@ -1,0 +1,1 @@
+"""Bindhall: sheets folded into a book."""
