@@ -18,20 +18,19 @@ def is_sideways(fold):
     return fold < 2
 
 
+def doubled(number, times):
+    found = number
+    for step in range(times):
+        found = found * 2
+    return found
+
+
 def column_count(folds):
-    columns = 1
-    for fold in folds:
-        if is_sideways(fold):
-            columns = columns * 2
-    return columns
+    return doubled(1, len([fold for fold in folds if is_sideways(fold)]))
 
 
 def row_count(folds):
-    rows = 1
-    for fold in folds:
-        if not is_sideways(fold):
-            rows = rows * 2
-    return rows
+    return doubled(1, len([fold for fold in folds if not is_sideways(fold)]))
 
 
 def flat_pile(sheets, column, row):

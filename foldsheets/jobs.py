@@ -29,15 +29,31 @@ def is_job(folds, sheets, pages):
         return False
     if any([fold > HIGHEST_FOLD for fold in folds]):
         return False
-    return 1 <= sheets <= MOST_SHEETS and 1 <= pages <= MOST_PAGES
+    return 1 <= sheets <= MOST_SHEETS and is_book(pages)
+
+
+def is_book(pages):
+    return 1 <= pages <= MOST_PAGES
+
+
+def is_page(job, number):
+    return 1 <= number <= job.pages
+
+
+def cell_count(job):
+    return job.columns * job.rows
 
 
 def section_pages(job):
     return 2 * len(job.leaves)
 
 
+def sections_of(pages, within):
+    return (pages + within - 1) // within
+
+
 def section_count(job):
-    return (job.pages + section_pages(job) - 1) // section_pages(job)
+    return sections_of(job.pages, section_pages(job))
 
 
 def blank_count(job):

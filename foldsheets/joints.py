@@ -1,6 +1,6 @@
 """Which leaves of a section are one piece of paper, and at which edge."""
 
-from foldsheets.jobs import BOTTOM, LEFT, RIGHT, TOP
+from foldsheets.jobs import BOTTOM, LEFT, RIGHT, TOP, spine
 
 
 def edge_on_the_right(leaf):
@@ -39,3 +39,7 @@ def joints(leaves):
         if below is not None:
             found.append(joint(number, below, edge_below(leaf)))
     return sorted(found)
+
+
+def slit_joints(job):
+    return [each for each in joints(job.leaves) if each[2] != spine(job)]

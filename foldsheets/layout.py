@@ -1,6 +1,6 @@
 """Where the pages stand on the flat sheets, and which way up."""
 
-from foldsheets.jobs import LEFT, RIGHT, section_pages, spine
+from foldsheets.jobs import LEFT, RIGHT, cell_count, section_pages, spine
 
 FRONT = 0
 BACK = 1
@@ -29,7 +29,7 @@ def book_page(job, section, number, face):
 
 
 def side_cells(job, section, sheet, side):
-    cells = [(0, 0)] * (job.columns * job.rows)
+    cells = [(0, 0)] * cell_count(job)
     for number, leaf in enumerate(job.leaves):
         if leaf.sheet == sheet:
             face = face_or_side(leaf, side)
@@ -48,6 +48,13 @@ def seen_cells(job, section, sheet, side, way):
     if side == BACK and way == 1:
         return half_turned(cells)
     return cells
+
+
+def first_difference(cells, others):
+    for number, cell in enumerate(cells):
+        if cell != others[number]:
+            return number
+    return None
 
 
 def page_place(job, page):

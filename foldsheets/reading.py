@@ -6,6 +6,9 @@ SIDE = 3
 PAGE = 4
 STACK = 5
 JOINED = 6
+SLIT = 7
+CREEP = 8
+JUDGE = 9
 FIND = 10
 LEAST = 11
 

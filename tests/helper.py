@@ -31,6 +31,34 @@ def joined():
     return [6]
 
 
+def slit():
+    return [7]
+
+
+def creep(leaf, thickness):
+    return [8, leaf, thickness]
+
+
+def with_count(numbers):
+    return [len(numbers)] + list(numbers)
+
+
+def judge(section, sheet, which, pages, marks):
+    return [9, section, sheet, which] + with_count(pages) + with_count(marks)
+
+
+def find(how_many, *lists):
+    return [10, how_many] + [number for each in lists for number in with_count(each)]
+
+
+def least(pages):
+    return [11, pages]
+
+
+def facing(number):
+    return [12, number]
+
+
 def taken_apart(given):
     found = []
     at = 0
@@ -64,6 +92,23 @@ def rows_of_folds(most):
     for length in range(most + 1):
         for folds in product(range(4), repeat=length):
             yield list(folds)
+
+
+def rows_of(length):
+    """Every row of just so many folds, in order."""
+    return [list(folds) for folds in product(range(4), repeat=length)]
+
+
+def layout(answer):
+    """What side answers, as two lists: the pages, the marks."""
+    cells = groups(answer, 2)
+    return [page for page, mark in cells], [mark for page, mark in cells]
+
+
+def sheet_layout(folds):
+    """A sheet's front and back as find takes them, from a book that just fills one section of one sheet."""
+    front, back = ask_of(folds, 1, 2 * 2 ** len(folds), side(0, 0, 0, 0), side(0, 0, 1, 0))
+    return (*layout(front), *layout(back))
 
 
 class Piece:

@@ -29,6 +29,17 @@ UNWRITTEN = re.compile(
     r"\b(type|typing|typing_extensions|enum|Enum|IntEnum|StrEnum|Flag|IntFlag|Generic|Protocol|ABC|ABCMeta|namedtuple"
     r"|NamedTuple|TypedDict|TYPE_CHECKING|abstractmethod)\b|dataclass|overload|contextmanager"
 )
+UNUSED_NAMES = set("""
+    attrgetter breakpoint builtins chr compile copyright credits delattr dir eval exec exit frozenset gc getattr globals
+    hasattr help id importlib license locals methodcaller os quit set setattr super sys type vars print
+    register mro elements open input version_info with_traceback add_note
+""".split())
+UNUSED_VALUES = set("""
+    items keys values pop update append clear extend insert remove reverse setdefault sort args encode format
+    register mro elements open input version_info with_traceback add_note format_map
+""".split())
+WALKS = ("zip", "enumerate", "reversed", "range")
+WALKERS = ("list", "tuple", "dict", "sorted", "sum", "any", "all", "enumerate", "zip", "min", "max")
 BUILT_IN = set(dir(__builtins__) if not isinstance(__builtins__, dict) else __builtins__)
 
 
@@ -42,6 +53,16 @@ def trees():
 
 def nodes(kinds):
     return [(name, node) for name, tree in trees() for node in ast.walk(tree) if isinstance(node, kinds)]
+
+
+def top_names(tree):
+    found = []
+    for node in tree.body:
+        if isinstance(node, (ast.FunctionDef, ast.ClassDef)):
+            found.append(node.name)
+        elif isinstance(node, ast.Assign):
+            found.append(node.targets[0].id)
+    return found
 
 
 def bound_names(tree):
@@ -133,7 +154,75 @@ class Statements(unittest.TestCase):
                     self.assertIsInstance(right, ast.Constant, (name, node.lineno))
 
 
+    def test_the_top_of_a_file(self):
+        for name, tree in trees():
+            self.assertIsInstance(ast.get_docstring(tree), str, name)
+            for node in tree.body[1:]:
+                self.assertIsInstance(node, (ast.ImportFrom, ast.FunctionDef, ast.ClassDef, ast.Assign), name)
+                if isinstance(node, ast.Assign):
+                    ast.literal_eval(node.value)
+                    # Lists and dicts of a file's top have none within; a tuple can't be changed by a def.
+                    within = [each for each in ast.walk(node.value) if isinstance(each, (ast.List, ast.Dict))]
+                    self.assertLessEqual(len(within), 1, (name, node.lineno))
+
+    def test_no_two_files_draw_from_one_another(self):
+        drawn = {path.stem: set() for path in files()}
+        for name, node in nodes(ast.ImportFrom):
+            drawn[name[:-len(".py")]].add(node.module.split(".")[1])
+        while drawn:
+            ready = [name for name, others in drawn.items() if not others & set(drawn)]
+            self.assertNotEqual(ready, [], drawn)
+            for name in ready:
+                del drawn[name]
+
+    def test_a_name_is_drawn_from_the_file_that_defines_it(self):
+        defined = {name[:-len(".py")]: top_names(tree) for name, tree in trees()}
+        for name, node in nodes(ast.ImportFrom):
+            for alias in node.names:
+                self.assertIsNone(alias.asname, name)
+                self.assertIn(alias.name, defined[node.module.split(".")[1]], name)
+
+    def test_texts_are_plain(self):
+        for name, node in nodes(ast.Constant):
+            if isinstance(node.value, str):
+                self.assertNotIn("%", node.value, (name, node.lineno))
+
+    def test_no_annotations(self):
+        for name, node in nodes(ast.FunctionDef):
+            self.assertEqual([each.arg for each in node.args.args if each.annotation], [], (name, node.name))
+
+    def test_what_is_walked_is_walked_on_the_spot(self):
+        for name, tree in trees():
+            walked = set()
+            for node in ast.walk(tree):
+                if isinstance(node, (ast.For, ast.comprehension)):
+                    walked.add(node.iter)
+                elif isinstance(node, ast.Call) and isinstance(node.func, ast.Name) and node.func.id in WALKERS:
+                    walked.update(node.args)
+            for node in ast.walk(tree):
+                if isinstance(node, ast.Call) and isinstance(node.func, ast.Name) and node.func.id in WALKS:
+                    self.assertIn(node, walked, (name, node.lineno))
+
+
 class Names(unittest.TestCase):
+    def test_names_that_are_not_used(self):
+        for name, node in nodes(ast.Name):
+            self.assertNotIn(node.id, UNUSED_NAMES, (name, node.lineno))
+
+    def test_no_name_is_a_method_and_a_value(self):
+        methods, kept = set(), set()
+        for _, node in nodes(ast.ClassDef):
+            methods |= {each.name for each in node.body if isinstance(each, ast.FunctionDef)}
+        for _, node in nodes(ast.Attribute):
+            if isinstance(node.ctx, ast.Store):
+                kept.add(node.attr)
+        self.assertEqual(methods & kept, set())
+        self.assertEqual(kept & UNUSED_VALUES, set())
+
+    def test_keywords_are_those_allowed(self):
+        for name, node in nodes(ast.Call):
+            self.assertEqual(node.keywords, [], (name, node.lineno))
+
     def test_plain_and_not_python_s_own(self):
         for name, tree in trees():
             for word in bound_names(tree):
@@ -160,10 +249,7 @@ class Names(unittest.TestCase):
             for node in tree.body:
                 if isinstance(node, ast.ImportFrom):
                     words.extend(alias.name for alias in node.names)
-                elif isinstance(node, (ast.FunctionDef, ast.ClassDef)):
-                    words.append(node.name)
-                elif isinstance(node, ast.Assign):
-                    words.append(node.targets[0].id)
+            words.extend(top_names(tree))
             self.assertEqual(len(words), len(set(words)), name)
 
     def test_no_parameter_or_local_is_called_like_a_class_or_an_import(self):

@@ -1,7 +1,5 @@
 import unittest
 
-from foldsheets.bench import CallNotBuilt
-from foldsheets.desk import answers
 from foldsheets.reading import read_calls
 
 # Each call as it stands in the list, with its whole numbers and its lists.
@@ -34,18 +32,6 @@ class Reading(unittest.TestCase):
         everything = [number for written, numbers, lists in CALLS for number in written]
         found = [(call.number, call.numbers, call.lists) for call in read_calls(everything)]
         self.assertEqual(found, [(written[0], numbers, lists) for written, numbers, lists in CALLS])
-
-
-class NotBuilt(unittest.TestCase):
-    def test_a_call_that_is_not_built_is_not_answered(self):
-        for call in ([7], [8, 0, 1], [9, 0, 0, 0, 0, 0], [10, 0, 0, 0, 0, 0], [11, 1], [12, 1]):
-            with self.assertRaises(CallNotBuilt):
-                answers([1, 1, 1, 0] + call)
-
-    def test_find_and_least_need_no_job(self):
-        for call in ([10, 0, 0, 0, 0, 0], [11, 1]):
-            with self.assertRaises(CallNotBuilt):
-                answers(call)
 
 
 if __name__ == "__main__":
